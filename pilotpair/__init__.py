@@ -1,0 +1,1 @@
+"""Pilotpair: pilots and boats in pairs that stay."""
