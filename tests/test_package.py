@@ -1,12 +1,15 @@
-"""Point 1, of the package as a whole: no clock, no chance, no files.
+"""The package as a whole: the interface, and point 1: no clock, no chance, no files.
 
 Clock, chance and files are reached only through an import from outside or
 through one of Python's own names, so it is enough to look at these two.
 """
 import ast
 import builtins
+import inspect
 import os
 import unittest
+
+from pilotpair import asking, staying, wishes
 
 ROOT = os.path.dirname(os.path.dirname(os.path.abspath(__file__)))
 PACKAGE = os.path.join(ROOT, "pilotpair")
@@ -52,7 +55,7 @@ def package_trees():
 
 class Package(unittest.TestCase):
     def test_its_files_are_there(self):
-        for name in ("__init__.py", "errors.py", "wishes.py"):
+        for name in ("__init__.py", "asking.py", "errors.py", "staying.py", "wishes.py"):
             self.assertIn(name, package_files())
 
     def test_it_holds_python_files_alone(self):
@@ -68,6 +71,22 @@ class Package(unittest.TestCase):
         for name, tree in package_trees():
             with self.subTest(file=name):
                 self.assertEqual(names_not_allowed(tree), [])
+
+
+class Interface(unittest.TestCase):
+    def test_functions_and_their_arguments(self):
+        told = (
+            (wishes, "rather", ["wishes", "one", "other"]),
+            (asking, "paired", ["pilots", "boats"]),
+            (asking, "askings", ["pilots", "boats"]),
+            (staying, "loose", ["pilots", "boats", "pairs"]),
+            (staying, "stays", ["pilots", "boats", "pairs"]),
+        )
+        for module, name, arguments in told:
+            with self.subTest(name=name):
+                function = getattr(module, name)
+                self.assertEqual(function.__module__, module.__name__)
+                self.assertEqual(list(inspect.signature(function).parameters), arguments)
 
 
 class TheseChecks(unittest.TestCase):
